@@ -1,0 +1,1 @@
+"""Ruleswood: pairs of terms grown into rules."""
