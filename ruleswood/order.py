@@ -1,10 +1,9 @@
 """The order of terms, told by signs and their weights."""
 
 from ruleswood.errors import BadOrder
-from ruleswood.terms import all_parts, is_name
+from ruleswood.terms import MOST_PARTS, all_parts, is_name
 
 MOST_SIGNS = 20
-MOST_PARTS = 4
 MOST_WEIGHT = 9
 LAST_BLANK = 999
 

@@ -6,6 +6,7 @@ Nothing here calls itself, so that the depth of a term is bounded by no stack of
 from ruleswood.errors import NoPlace
 
 LONGEST_NAME = 8
+MOST_PARTS = 4
 
 
 def is_name(text):

@@ -5,37 +5,63 @@ import inspect
 import pathlib
 import unittest
 
-from ruleswood import errors, order, terms
+from ruleswood import entries, errors, fitting, order, terms, texts
 
 PACKAGE = pathlib.Path(__file__).resolve().parent.parent / "ruleswood"
 FILES = sorted(PACKAGE.rglob("*.py"))
 FUNCTIONS = {
-    terms.blanks: ["term"],
-    terms.size: ["term"],
-    terms.places: ["term"],
-    terms.part_at: ["term", "place"],
-    terms.put_at: ["term", "place", "new"],
-    terms.filled: ["term", "filling"],
+    terms: {
+        "blanks": ["term"],
+        "size": ["term"],
+        "places": ["term"],
+        "part_at": ["term", "place"],
+        "put_at": ["term", "place", "new"],
+        "filled": ["term", "filling"],
+    },
+    texts: {
+        "shown": ["term"],
+        "read": ["text"],
+        "shown_pair": ["left", "right"],
+        "read_pair": ["text"],
+    },
+    fitting: {
+        "fitted": ["pattern", "term"],
+        "met": ["one", "other", "most"],
+    },
 }
-METHODS = {"__init__": ["signs"], "fits": ["term"], "weight": ["term"], "greater": ["one", "other"],
-           "told": ["one", "other"]}
+METHODS = {
+    order.Order: {
+        "__init__": ["signs"],
+        "fits": ["term"],
+        "weight": ["term"],
+        "greater": ["one", "other"],
+        "told": ["one", "other"],
+    },
+    entries.Entry: {
+        "__init__": ["number", "left", "right", "chain"],
+    },
+}
+CLASSES = {order.Order: "ruleswood.order", entries.Entry: "ruleswood.entries"}
 # Point 1: no clock, no chance, no files. So nothing of these is imported or called.
 BARRED = {"open", "print", "input", "eval", "exec", "hash", "id", "float", "complex", "round", "globals", "locals"}
 
 
 class InterfaceTest(unittest.TestCase):
     def test_functions_and_their_arguments(self):
-        for function, names in FUNCTIONS.items():
-            with self.subTest(function=function.__name__):
-                self.assertEqual(function.__module__, "ruleswood.terms")
-                self.assertEqual(list(inspect.signature(function).parameters), names)
+        for module, functions in FUNCTIONS.items():
+            for name, names in functions.items():
+                with self.subTest(function=name):
+                    function = getattr(module, name)
+                    self.assertEqual(function.__module__, module.__name__)
+                    self.assertEqual(list(inspect.signature(function).parameters), names)
 
     def test_methods_stand_in_the_class_itself(self):
-        self.assertEqual(order.Order.__module__, "ruleswood.order")
-        for name, names in METHODS.items():
-            with self.subTest(method=name):
-                signature = inspect.signature(vars(order.Order)[name])
-                self.assertEqual(list(signature.parameters), ["self"] + names)
+        for kind, methods in METHODS.items():
+            self.assertEqual(kind.__module__, CLASSES[kind])
+            for name, names in methods.items():
+                with self.subTest(kind=kind.__name__, method=name):
+                    signature = inspect.signature(vars(kind)[name])
+                    self.assertEqual(list(signature.parameters), ["self"] + names)
 
     def test_errors_are_defined_in_their_file(self):
         for name in ("WoodError", "BadOrder", "NoTerm", "NoPlace", "BadText", "TooHeavy", "TooLong"):
