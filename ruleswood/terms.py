@@ -52,6 +52,11 @@ def places(term):
     return found[::-1]
 
 
+def name_places(term):
+    """List the places of a term where no blank stands, in their order."""
+    return [place for place in places(term) if not isinstance(part_at(term, place), int)]
+
+
 def _numbered_part(term, number):
     # Item 0 is the name, and Python would take a number below 0 from the end.
     if isinstance(term, int) or not 1 <= number < len(term):

@@ -5,7 +5,7 @@ import inspect
 import pathlib
 import unittest
 
-from ruleswood import entries, errors, fitting, order, terms, texts
+from ruleswood import entries, errors, fitting, growing, meetings, order, sparing, steps, terms, texts
 
 PACKAGE = pathlib.Path(__file__).resolve().parent.parent / "ruleswood"
 FILES = sorted(PACKAGE.rglob("*.py"))
@@ -28,6 +28,18 @@ FUNCTIONS = {
         "fitted": ["pattern", "term"],
         "met": ["one", "other", "most"],
     },
+    meetings: {
+        "meetings": ["rule", "other", "most"],
+    },
+    steps: {
+        "step_fits": ["left", "right", "before", "place", "after"],
+        "walked": ["book", "start", "chain"],
+        "turned": ["start", "chain"],
+        "worn": ["term", "rules", "most"],
+    },
+    sparing: {
+        "spared": ["order", "pairs", "most"],
+    },
 }
 METHODS = {
     order.Order: {
@@ -40,8 +52,18 @@ METHODS = {
     entries.Entry: {
         "__init__": ["number", "left", "right", "chain"],
     },
+    growing.Wood: {
+        "__init__": ["order", "pairs", "heaviest", "most_entries"],
+        "grow": ["most"],
+        "standing": [],
+        "told": ["one", "other", "most"],
+    },
 }
-CLASSES = {order.Order: "ruleswood.order", entries.Entry: "ruleswood.entries"}
+CLASSES = {
+    order.Order: "ruleswood.order",
+    entries.Entry: "ruleswood.entries",
+    growing.Wood: "ruleswood.growing",
+}
 # Point 1: no clock, no chance, no files. So nothing of these is imported or called.
 BARRED = {"open", "print", "input", "eval", "exec", "hash", "id", "float", "complex", "round", "globals", "locals"}
 
